@@ -88,7 +88,7 @@ func OrderText(b Book, order int) string {
 	for _, section := range o.Sections {
 		text.WriteString(" " + strconv.Itoa(section))
 	}
-	if o.Kind == KPass && somebodyIn(b.Occ, o.Sections) {
+	if o.Kind == KPass && anyMarked(b.Occ, o.Sections) {
 		text.WriteString(" on sight")
 	}
 	return text.String()
@@ -184,11 +184,30 @@ func sectionOwners(orders []Order) (map[int]int, bool) {
 	return owners, true
 }
 
-func somebodyIn(occ []bool, sections []int) bool {
+// anyMarked tells whether one of the sections is marked in a list that has a flag for each section of a book.
+func anyMarked(marks []bool, sections []int) bool {
 	for _, section := range sections {
-		if occ[section] {
+		if marks[section] {
 			return true
 		}
 	}
 	return false
+}
+
+// copyBook shares no memory with the book, so that the copy can be changed and handed out.
+func copyBook(b Book) Book {
+	c := Book{Sections: b.Sections, Locked: copyList(b.Locked), Occ: copyList(b.Occ)}
+	for _, o := range b.Orders {
+		c.Orders = append(c.Orders, copyOrder(o))
+	}
+	return c
+}
+
+func copyOrder(o Order) Order {
+	o.Sections = copyList(o.Sections)
+	return o
+}
+
+func copyList[T any](list []T) []T {
+	return append([]T(nil), list...)
 }
