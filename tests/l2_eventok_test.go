@@ -152,7 +152,8 @@ var namedFields = map[int]string{
 	impl.EFree:   "Of",
 }
 
-func TestFieldsThatARowDoesNotName(t *testing.T) {
+// overfilledEvents are right but for one field that their row does not name.
+func overfilledEvents() []impl.Event {
 	fill := map[string][]func(e *impl.Event){
 		"Of":       {func(e *impl.Event) { e.Of = 1 }, func(e *impl.Event) { e.Of = -1 }, func(e *impl.Event) { e.Of = 1 << 32 }},
 		"Holder":   {func(e *impl.Event) { e.Holder = "cora" }, func(e *impl.Event) { e.Holder = "?" }, func(e *impl.Event) { e.Holder = "\x00" }},
@@ -160,20 +161,27 @@ func TestFieldsThatARowDoesNotName(t *testing.T) {
 		"Sections": {func(e *impl.Event) { e.Sections = []int{0} }, func(e *impl.Event) { e.Sections = []int{-1} }, func(e *impl.Event) { e.Sections = numbers(0, 30) }},
 		"Text":     {func(e *impl.Event) { e.Text = "x" }, func(e *impl.Event) { e.Text = "\x00" }, func(e *impl.Event) { e.Text = strings.Repeat("x", 201) }},
 	}
-	asked := 0
+	var events []impl.Event
 	for op, named := range namedFields {
 		for field, ways := range fill {
 			if strings.Contains(named, field) {
 				continue
 			}
 			for _, way := range ways {
-				asked++
-				wantNone(t, plainBook(), changed(rightEvents()[op], way))
+				events = append(events, changed(rightEvents()[op], way))
 			}
 		}
 	}
-	if asked < 9*6 {
-		t.Errorf("only %d events were asked", asked)
+	return events
+}
+
+func TestFieldsThatARowDoesNotName(t *testing.T) {
+	events := overfilledEvents()
+	for _, e := range events {
+		wantNone(t, plainBook(), e)
+	}
+	if len(events) < 9*6 {
+		t.Errorf("only %d events were asked", len(events))
 	}
 }
 
